@@ -2,7 +2,11 @@
 package hindsight
 
 import (
+	"strings"
+
 	"hindsight/api"
+	"hindsight/machine"
+	"hindsight/store"
 	"hindsight/syntax"
 )
 
@@ -27,17 +31,59 @@ func faultOf(read func()) (kind api.Kind, line int) {
 	return api.Fine, 0
 }
 
+// apart is how many moments lie between two states that are kept: going back
+// runs again over fewer than these.
+const apart = 20
+
 // Session is a debugger at work.
-type Session struct{}
+type Session struct {
+	now  machine.State
+	kept store.Store[int, machine.State] // by moments
+}
 
 // Start begins a session (P3).
-func Start(source string, tape []int) (*Session, api.Kind, int) { return nil, api.Fine, 0 }
+func Start(source string, tape []int) (*Session, api.Kind, int) {
+	var program syntax.Program
+	// The names and texts of a program are pieces of what was read: a copy, so
+	// that nothing that is handed in is kept.
+	kind, line := faultOf(func() { program = syntax.Read(strings.Clone(source)) })
+	if kind != api.Fine {
+		return nil, kind, line
+	}
+	s := &Session{now: machine.Start(program, tape)}
+	s.keep(s.now)
+	return s, api.Fine, 0
+}
 
 // Now tells the moment (P4).
-func (s *Session) Now() api.Moment { return api.Moment{} }
+func (s *Session) Now() api.Moment { return s.now.Moment() }
 
 // Seek goes to a moment (P4).
-func (s *Session) Seek(time int) bool { return false }
+func (s *Session) Seek(time int) bool {
+	state, ok := s.at(time)
+	if ok {
+		s.now = state
+	}
+	return ok
+}
+
+// at gives the state at a moment, if there is one of that number: it runs there
+// from the latest state ahead of it that was kept.
+func (s *Session) at(time int) (machine.State, bool) {
+	state, ok := s.kept.Latest(time)
+	for ok && state.Time() < time {
+		if state, ok = state.Next(); ok {
+			s.keep(state)
+		}
+	}
+	return state, ok
+}
+
+func (s *Session) keep(state machine.State) {
+	if state.Time()%apart == 0 {
+		s.kept.Keep(state.Time(), state)
+	}
+}
 
 // Step goes on by a moment (P5).
 func (s *Session) Step() bool { return false }
