@@ -44,13 +44,16 @@ type ruleReader struct {
 	out   grammar
 }
 
-func readRules() grammar {
+// readRules gives the rules for texts that are whole programs, or whatever the
+// goal is.
+func readRules(goal string) grammar {
 	r := &ruleReader{words: strings.Fields(rules), out: grammar{}}
 	for len(r.words) > 0 {
 		name := r.words[0]
 		r.words = r.words[2:]
 		r.out[name] = r.alternatives()
 	}
+	r.out["goal"] = [][]string{{goal}}
 	return r.out
 }
 
@@ -97,8 +100,8 @@ type item struct {
 	at, from int
 }
 
-// formFault tells the place of the first token with which no program goes on
-// (len(tokens): it ends too early), or -1. It follows all programs at once.
+// formFault tells the place of the first token with which no text of the goal
+// goes on (len(tokens): it ends too early), or -1. It follows all texts at once.
 func (g grammar) formFault(tokens []string) int {
 	sets := [][]item{{{rule: "goal"}}}
 	for place := 0; ; place++ {
@@ -123,12 +126,7 @@ func (g grammar) formFault(tokens []string) int {
 	}
 }
 
-func (g grammar) alternative(i item) []string {
-	if i.rule == "goal" {
-		return []string{"program"}
-	}
-	return g[i.rule][i.which]
-}
+func (g grammar) alternative(i item) []string { return g[i.rule][i.which] }
 
 // close goes round until nothing comes to the last set any more, so that it
 // needs no thought for rules that may be empty.
@@ -245,35 +243,41 @@ func written(d *dice, tokens []string) []string {
 	return texts
 }
 
-func TestFormAgainstRules(t *testing.T) {
-	g := readRules()
-	d := dice(1)
+// expectForms makes many texts of a goal, of up to so many rules, and most of
+// them wrong; it holds Form and its line to the document's rules.
+func expectForms(t *testing.T, goal string, d dice, size int, fault func(text string) (api.Kind, int)) {
+	t.Helper()
+	g := readRules(goal)
 	var good, bad int
 	for range 6000 {
-		budget := d.below(90)
-		tokens := g.derive(&d, "program", &budget)
+		budget := d.below(size)
+		tokens := g.derive(&d, goal, &budget)
 		for range d.below(3) {
 			tokens = mutate(&d, tokens)
 		}
-		source := strings.Join(written(&d, tokens), "\n")
-		if len(source) > api.MaxSource {
+		text := strings.Join(written(&d, tokens), "\n")
+		if len(text) > api.MaxSource {
 			continue
 		}
 		place := g.formFault(tokens)
-		kind, line := hindsight.Check(source)
+		kind, line := fault(text)
 		if place < 0 {
 			good++
 		} else {
 			bad++
 		}
 		if place < 0 && kind < api.Main && kind != api.Fine ||
-			place >= 0 && (kind != api.Form || line != min(place+1, 1+strings.Count(source, "\n"))) {
-			t.Fatalf("Check(%q) = %d, %d; the fault is at token %d", source, kind, line, place)
+			place >= 0 && (kind != api.Form || line != min(place+1, 1+strings.Count(text, "\n"))) {
+			t.Fatalf("%q has the fault %d, %d; it is at token %d", text, kind, line, place)
 		}
 	}
 	if good < 500 || bad < 500 {
-		t.Errorf("only %d good and %d bad sources", good, bad)
+		t.Errorf("only %d good and %d bad texts", good, bad)
 	}
+}
+
+func TestFormAgainstRules(t *testing.T) {
+	expectForms(t, "program", 1, 90, hindsight.Check)
 }
 
 // scopes finds wrong names in one walk over the tokens, without their nodes.
@@ -388,7 +392,7 @@ func nameIf(wrong bool) api.Kind {
 // TestNamesAgainstTokens puts another name in the place of each wrong one, so
 // that it comes to the later names too.
 func TestNamesAgainstTokens(t *testing.T) {
-	g := readRules()
+	g := readRules("program")
 	d := dice(2)
 	var found [8]int
 	for range 1000 {

@@ -72,11 +72,19 @@ func (s *Session) Seek(time int) bool {
 func (s *Session) at(time int) (machine.State, bool) {
 	state, ok := s.kept.Latest(time)
 	for ok && state.Time() < time {
-		if state, ok = state.Next(); ok {
-			s.keep(state)
-		}
+		state, ok = s.next(state)
 	}
 	return state, ok
+}
+
+// next gives the state behind another, if there is one. All that runs goes by
+// it, so that no state that is to be kept is missed.
+func (s *Session) next(state machine.State) (machine.State, bool) {
+	next, ok := state.Next()
+	if ok {
+		s.keep(next)
+	}
+	return next, ok
 }
 
 func (s *Session) keep(state machine.State) {
@@ -84,21 +92,6 @@ func (s *Session) keep(state machine.State) {
 		s.kept.Keep(state.Time(), state)
 	}
 }
-
-// Step goes on by a moment (P5).
-func (s *Session) Step() bool { return false }
-
-// Back goes back by a moment (P5).
-func (s *Session) Back() bool { return false }
-
-// Over goes on, over calls (P6).
-func (s *Session) Over() bool { return false }
-
-// Out goes on, out of a call (P6).
-func (s *Session) Out() bool { return false }
-
-// BackOver goes back, over calls (P6).
-func (s *Session) BackOver() bool { return false }
 
 // Break sets a breakpoint (P7).
 func (s *Session) Break(line int, when string) (api.Kind, int) { return api.Fine, 0 }
@@ -111,11 +104,3 @@ func (s *Session) Go() bool { return false }
 
 // GoBack goes back to a breakpoint (P8).
 func (s *Session) GoBack() bool { return false }
-
-// Eval works out an expression (P9).
-func (s *Session) Eval(expr string) (string, api.Stop, api.Kind, int) {
-	return "", api.None, api.Fine, 0
-}
-
-// Since tells from which moment on an expression has come to the same (P10).
-func (s *Session) Since(expr string) (int, api.Kind, int) { return 0, api.Fine, 0 }

@@ -300,6 +300,14 @@ func (w *writer) program(routines []*routine) string {
 	return w.String()
 }
 
+// text makes the text of one expression.
+func (w *writer) text(e *tree) string {
+	w.line = 1
+	w.put("")
+	w.expr(e, 0)
+	return w.String()
+}
+
 func (w *writer) block(body []*branch) {
 	w.put("{")
 	for _, b := range body {
@@ -401,12 +409,14 @@ func (w *writer) bare(e *tree) {
 		w.list(e.parts)
 		w.put("]")
 	case "call":
+		e.line = w.line
 		w.put(e.text, "(")
 		w.list(e.parts)
 		w.put(")")
 	case "string":
 		w.put("\"" + e.text + "\"")
 	default:
+		e.line = w.line
 		w.put(e.text)
 	}
 }
@@ -435,7 +445,7 @@ func TestRunsAgainstSecondWay(t *testing.T) {
 			}
 			t.Fatalf("%s\nCheck = %d, %d", source, kind, line)
 		}
-		want := secondMoments(routines, tape)
+		want := secondRunOf(routines, tape).moments
 		stops[want[len(want)-1].Stop]++
 		s := started(t, source, tape...)
 		got := allMoments(t, s)

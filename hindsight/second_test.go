@@ -19,6 +19,7 @@ import (
 type tree struct {
 	sort, text string
 	parts      []*tree
+	line       int // of a name or a call, when it has been written
 }
 
 // branch is a statement: sort is var, =, if, while, return, print or call. The
@@ -52,23 +53,59 @@ type secondRun struct {
 	calls    []*activation
 	output   []string
 	moments  []api.Moment
+	tops     []*activation // the last of the calls at each moment, as it was then
 }
 
 // over is what the recursion is left with when the last moment is told.
 type over struct{}
 
-func secondMoments(routines []*routine, tape []int) []api.Moment {
+func secondRunOf(routines []*routine, tape []int) *secondRun {
 	r := &secondRun{routines: routines, tape: tape}
-	func() {
-		defer func() {
-			if given := recover(); given != nil && given != (over{}) {
-				panic(given)
-			}
-		}()
+	r.untilOver(func() {
 		r.enter("main", nil)
 		r.tell(api.Done)
+	})
+	return r
+}
+
+func (r *secondRun) untilOver(run func()) {
+	defer func() {
+		if given := recover(); given != nil && given != (over{}) {
+			panic(given)
+		}
 	}()
-	return r.moments
+	run()
+}
+
+// secondEval works out an expression where a call has these variables: in a run
+// of its own, whose one moment would be the stop.
+func secondEval(c *activation, e *tree) answered {
+	if kind, line := e.wrongName(c.names); kind != api.Fine {
+		return answered{kind: kind, line: line}
+	}
+	r := &secondRun{calls: []*activation{c}}
+	var v any
+	r.untilOver(func() { v = r.work(e) })
+	if len(r.moments) > 0 {
+		return answered{stop: r.moments[0].Stop}
+	}
+	return answered{text: writtenValue(v)}
+}
+
+// wrongName tells the first wrong name of an expression that has been written.
+func (e *tree) wrongName(seen []string) (api.Kind, int) {
+	switch {
+	case e.sort == "name" && !slices.Contains(seen, e.text), e.sort == "call" && e.text != "len":
+		return api.Name, e.line
+	case e.sort == "call" && len(e.parts) != 1:
+		return api.Count, e.line
+	}
+	for _, part := range e.parts {
+		if kind, line := part.wrongName(seen); kind != api.Fine {
+			return kind, line
+		}
+	}
+	return api.Fine, 0
 }
 
 func (r *secondRun) tell(stop api.Stop) {
@@ -79,10 +116,16 @@ func (r *secondRun) tell(stop api.Stop) {
 	for _, c := range r.calls {
 		m.Stack = append(m.Stack, api.Frame{Func: c.routine, Line: c.line})
 	}
+	top := &activation{}
 	if len(r.calls) > 0 {
-		m.Vars = varsOf(r.calls[len(r.calls)-1])
+		c := r.calls[len(r.calls)-1]
+		m.Vars = varsOf(c)
+		top.names = slices.Clone(c.names)
+		for _, v := range c.values {
+			top.values = append(top.values, copyOf(v))
+		}
 	}
-	r.moments = append(r.moments, m)
+	r.moments, r.tops = append(r.moments, m), append(r.tops, top)
 	if stop != api.None {
 		panic(over{})
 	}

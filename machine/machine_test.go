@@ -2,6 +2,9 @@ package machine
 
 import (
 	"reflect"
+	"slices"
+	"strconv"
+	"strings"
 	"testing"
 
 	"hindsight/api"
@@ -82,4 +85,68 @@ func TestOtherPanicsGoOn(t *testing.T) {
 		}
 	}()
 	s.Next()
+}
+
+// TestEvalLeavesStates: what is worked out aside is not to be found in a state,
+// nor in the run behind it.
+func TestEvalLeavesStates(t *testing.T) {
+	s := startOf("func f(a) { a[0] = len(a); return a; } func main() { var a = [7, [8]]; var b = f(a) + [a]; print b; }")
+	var moments []api.Moment
+	for state, ok := s, true; ok; state, ok = state.Next() {
+		moments = append(moments, state.Moment())
+	}
+	for n, ok := 0, true; ok; n++ {
+		before := s.copied()
+		exprs := []string{"1 + 2", "[1, [2]] + []", "1 / 0", "true && 1 < 2 || false"}
+		if slices.Contains(s.Names(), "a") {
+			exprs = append(exprs, "[a, a]", "a[1]", "a + a", "len(a) + a")
+		}
+		for _, expr := range exprs {
+			s.Eval(syntax.ReadExpr(expr))
+		}
+		if !reflect.DeepEqual(s, before) || !reflect.DeepEqual(s.Moment(), moments[n]) {
+			t.Fatalf("moment %d has become %+v", n, s)
+		}
+		s, ok = s.Next()
+	}
+}
+
+func TestEvalTells(t *testing.T) {
+	s := startOf("func main() { var a = [7, \"é\"]; print a; }")
+	s, _ = s.Next()
+	for _, c := range []struct {
+		expr, text string
+		stop       api.Stop
+	}{
+		{"a", "[7, \"é\"]", api.None}, {"a[1]", "\"é\"", api.None}, {"false && a", "false", api.None}, {"true || a", "true", api.None}, {"true && true", "true", api.None},
+		{"a[2]", "", api.Index}, {"a / 0", "", api.Types}, {"a[0] / 0", "", api.Zero}, {"[a, a" + strings.Repeat(", a", 60) + "]", "", api.Large},
+	} {
+		if text, stop := s.Eval(syntax.ReadExpr(c.expr)); text != c.text || stop != c.stop {
+			t.Errorf("Eval(%s) = %q, %d, want %q, %d", c.expr, text, stop, c.text, c.stop)
+		}
+	}
+}
+
+// TestOtherPanicsOfEvalGoOn: a name that is not to be seen is not for Eval to
+// find out, and does not pass for a stop.
+func TestOtherPanicsOfEvalGoOn(t *testing.T) {
+	defer func() {
+		if recover() == nil {
+			t.Error("nothing came out")
+		}
+	}()
+	startOf("func main() { print 1; }").Eval(syntax.ReadExpr("unseen"))
+}
+
+func TestNamesAndDepths(t *testing.T) {
+	s := startOf("func f(p, q) { if true { var r = p; } return q; } func main() { var x = 1; x = f(x, 2); }")
+	want := []string{"1 ", "1 x", "2 p q", "2 p q", "2 p q", "0 "}
+	for n, line := range want {
+		names := s.Names()
+		slices.Sort(names)
+		if got := strconv.Itoa(s.Depth()) + " " + strings.Join(names, " "); got != line {
+			t.Errorf("at moment %d: %q, want %q", n, got, line)
+		}
+		s, _ = s.Next()
+	}
 }

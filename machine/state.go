@@ -53,22 +53,30 @@ func (s State) Next() (State, bool) {
 // goOn goes to the next moment. A stop on the way leaves things as they are
 // then: this is the last moment.
 func (s *State) goOn() {
-	defer func() {
-		switch given := recover().(type) {
-		case nil:
-		case value.Stop:
-			s.stop = api.Stop(given)
-		default:
-			panic(given)
-		}
-	}()
-	s.toStatement()
+	s.stop = stopOf(s.toStatement)
 	if s.stop == api.None && s.time == api.MaxTime {
 		s.stop = api.Fuel
 	}
 }
 
-// toStatement goes on until a statement begins, or until main has ended.
+// stopOf tells the stop with which something that runs gives up. Another panic
+// goes on: it would be an error of the program, which must not pass for a stop.
+func stopOf(run func()) (stop api.Stop) {
+	defer func() {
+		switch given := recover().(type) {
+		case nil:
+		case value.Stop:
+			stop = api.Stop(given)
+		default:
+			panic(given)
+		}
+	}()
+	run()
+	return api.None
+}
+
+// toStatement goes on until a statement begins. If main ends before one does,
+// that is a stop like the others.
 func (s *State) toStatement() {
 	for len(s.frames) > 0 {
 		i := s.top().fetch()
@@ -77,7 +85,7 @@ func (s *State) toStatement() {
 			return
 		}
 	}
-	s.stop = api.Done
+	panic(value.Stop(api.Done))
 }
 
 // copied shares with the state what no instruction changes in place.
@@ -94,6 +102,9 @@ func (s State) copied() State {
 
 // Time tells the number of the moment.
 func (s State) Time() int { return s.time }
+
+// Depth tells how many frames there are.
+func (s State) Depth() int { return len(s.frames) }
 
 // Moment tells the state, in memory of its own.
 func (s State) Moment() api.Moment {
@@ -115,16 +126,29 @@ func (s State) stack() []api.Frame {
 }
 
 func (s State) vars() []api.Var {
-	if len(s.frames) == 0 {
-		return nil
-	}
 	var vars []api.Var
-	f := s.top()
-	for v := f.doing.seen; v != nil; v = v.outer {
-		vars = append(vars, api.Var{Name: v.name, Value: value.Written(f.variables[v.slot])})
+	for v := s.seen(); v != nil; v = v.outer {
+		vars = append(vars, api.Var{Name: v.name, Value: value.Written(s.top().variables[v.slot])})
 	}
 	slices.SortFunc(vars, func(a, b api.Var) int { return strings.Compare(a.Name, b.Name) })
 	return vars
+}
+
+// Names tells which variables are to be seen, in no order that means anything.
+func (s State) Names() []string {
+	var names []string
+	for v := s.seen(); v != nil; v = v.outer {
+		names = append(names, v.name)
+	}
+	return names
+}
+
+// seen gives the variables that are to be seen: none, if there is no frame.
+func (s State) seen() *variable {
+	if len(s.frames) == 0 {
+		return nil
+	}
+	return s.top().doing.seen
 }
 
 func (s *State) top() *frame { return &s.frames[len(s.frames)-1] }

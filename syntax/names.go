@@ -6,11 +6,11 @@ import (
 	"hindsight/api"
 )
 
-// A checker goes through a program in the order of its tokens, so that the
-// first wrong name that it comes to is the first of the source.
+// A checker goes through nodes in the order of their tokens, so that the first
+// wrong name that it comes to is the first of the source.
 type checker struct {
-	program Program
-	seen    []string // the variables that are to be seen, the outermost first
+	parameters func(function string) (int, bool) // how many it has, if it is there
+	seen       []string                          // the variables that are to be seen
 }
 
 func checkMain(program Program) {
@@ -20,10 +20,22 @@ func checkMain(program Program) {
 }
 
 func checkNames(program Program) {
-	c := checker{program: program}
+	c := checker{parameters: program.parameters}
 	for i := range program {
-		c.function(i)
+		c.function(program, i)
 	}
+}
+
+// CheckExpr panics with a Fault if an expression has a wrong name: the
+// variables that are to be seen are those handed in, and len is the one
+// function.
+func CheckExpr(expr Node, seen []string) {
+	c := checker{parameters: parametersOfLen, seen: seen}
+	c.node(expr)
+}
+
+func parametersOfLen(function string) (int, bool) {
+	return 1, function == "len"
 }
 
 // parameters tells how many a function has: the first of this name, and len
@@ -43,9 +55,9 @@ func (p Program) parameters(name string) (int, bool) {
 	return 0, false
 }
 
-func (c *checker) function(i int) {
-	f := c.program[i]
-	if _, taken := c.program[:i].parameters(f.Name.Text); taken {
+func (c *checker) function(program Program, i int) {
+	f := program[i]
+	if _, taken := program[:i].parameters(f.Name.Text); taken {
 		fail(api.Name, f.Name.Line())
 	}
 	c.seen = nil
@@ -127,7 +139,7 @@ func (c *checker) use(name Name) {
 // call looks at the count before the values: the function's name stands ahead
 // of them.
 func (c *checker) call(call Call) {
-	count, ok := c.program.parameters(call.Text)
+	count, ok := c.parameters(call.Text)
 	if !ok {
 		fail(api.Name, call.Line())
 	}

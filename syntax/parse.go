@@ -226,6 +226,13 @@ func (p *parser) expect(mark string) {
 	}
 }
 
+// end fails at a token that is one too many.
+func (p *parser) end() {
+	if t := p.next(); t.sort != endToken {
+		fail(api.Form, t.line)
+	}
+}
+
 func (p *parser) name() Name {
 	t := p.next()
 	if t.sort != nameToken {

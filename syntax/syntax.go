@@ -11,13 +11,27 @@ import (
 // Each look goes through the whole source before the next, since the order of
 // the looks, not of the places, says which fault is told.
 func Read(source string) Program {
-	checkLength(source)
-	checkEncoding(source)
-	p := parser{tokens: scan(source)}
+	p := parserOf(source)
 	program := p.program()
 	checkMain(program)
 	checkNames(program)
 	return program
+}
+
+// ReadExpr makes a node of a text that is one expression; it panics with a Fault
+// if it is none. The names are left to CheckExpr: which of them are there hangs
+// on the moment, the rest does not.
+func ReadExpr(text string) Node {
+	p := parserOf(text)
+	expr := p.expr()
+	p.end()
+	return expr
+}
+
+func parserOf(source string) parser {
+	checkLength(source)
+	checkEncoding(source)
+	return parser{tokens: scan(source)}
 }
 
 func checkLength(source string) {

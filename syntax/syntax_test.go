@@ -156,11 +156,48 @@ func TestLines(t *testing.T) {
 	}
 }
 
-func TestReadGivesUpWithFault(t *testing.T) {
+func expectFault(t *testing.T, want Fault, read func()) {
+	t.Helper()
 	defer func() {
-		if given := recover(); given != (Fault{api.Name, 2}) {
-			t.Errorf("what it gave up with: %v", given)
+		if given := recover(); given != want {
+			t.Errorf("it gave up with %v, want %v", given, want)
 		}
 	}()
-	Read("func main() {\nx = 1; }")
+	read()
+}
+
+func TestReadGivesUpWithFault(t *testing.T) {
+	expectFault(t, Fault{api.Name, 2}, func() { Read("func main() {\nx = 1; }") })
+}
+
+// TestReadExpr: which names there are is not asked.
+func TestReadExpr(t *testing.T) {
+	for _, c := range []struct{ text, want string }{
+		{"1", "1"}, {"\nx + f(1, 2) // y", "(x + f(1, 2))"}, {"-a[0] < len() || read", "(((-(a)[0]) < len()) || read)"}, {"[true, \"é\"]", "[true, \"é\"]"},
+	} {
+		if got := show(ReadExpr(c.text)); got != c.want {
+			t.Errorf("%q is read as %s, want %s", c.text, got, c.want)
+		}
+	}
+	for text, want := range map[string]Fault{
+		strings.Repeat(" ", api.MaxSource+1): {api.Long, 0}, "1\n\xff": {api.Encoding, 2}, "1 1\n$": {api.Token, 2}, "": {api.Form, 1}, "1\n;": {api.Form, 2}, "f(1)\n\nf": {api.Form, 3}, "x = 1": {api.Form, 1},
+	} {
+		expectFault(t, want, func() { ReadExpr(text) })
+	}
+}
+
+func TestCheckExpr(t *testing.T) {
+	seen := []string{"a", "b"}
+	for _, text := range []string{"1", "a", "[a, b][len(a)]", "-len([b]) == a && true"} {
+		CheckExpr(ReadExpr(text), seen)
+	}
+	for text, want := range map[string]Fault{
+		"c": {api.Name, 1}, "a + b\n+ c + len()": {api.Name, 2}, "\nlen()": {api.Count, 2}, "len(c, a)": {api.Count, 1}, "read()": {api.Name, 1}, "main()": {api.Name, 1}, "a(1)": {api.Name, 1}, "len": {api.Name, 1},
+	} {
+		expectFault(t, want, func() { CheckExpr(ReadExpr(text), seen) })
+	}
+	expectFault(t, Fault{api.Name, 1}, func() { CheckExpr(ReadExpr("a"), nil) })
+	if seen[0] != "a" || seen[1] != "b" {
+		t.Errorf("the names have become %v", seen)
+	}
 }
