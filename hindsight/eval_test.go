@@ -38,7 +38,7 @@ type evalCase struct {
 const sample = "func f(x) { return x; } func none() { } func main() { var i = -7; var t = true; var s = \"né\"; var l = [4, [\"é\", []], false]; print 1; }"
 
 // expectEvals asks at moment 4 of the sample, and looks whether something has
-// changed.
+// changed; and whether Break finds of the faults what it must find.
 func expectEvals(t *testing.T, cases []evalCase) {
 	t.Helper()
 	s := started(t, sample)
@@ -51,6 +51,9 @@ func expectEvals(t *testing.T, cases []evalCase) {
 		if now := s.Now(); !reflect.DeepEqual(now, before) {
 			t.Fatalf("Eval(%.120q) changes %+v to %+v", c.expr, before, now)
 		}
+		kind, line := breakFault(c.expr, c.want)
+		expectBreak(t, s, 1, c.expr, kind, line)
+		expectClear(t, s, 1, kind == api.Fine)
 	}
 }
 
@@ -142,12 +145,15 @@ func TestEvalEncoding(t *testing.T) {
 	expectEvals(t, cases)
 }
 
+func pad(expr string, size int) string { return expr + strings.Repeat(" ", size-len(expr)) }
+
+// nested uses up so many bytes for one thing.
+func nested(opening, middle, closing string, size int) string {
+	count := (size - len(middle)) / (len(opening) + len(closing))
+	return pad(strings.Repeat(opening, count)+middle+strings.Repeat(closing, count), size)
+}
+
 func TestEvalLong(t *testing.T) {
-	pad := func(expr string, size int) string { return expr + strings.Repeat(" ", size-len(expr)) }
-	nested := func(opening, middle, closing string, size int) string {
-		count := (size - len(middle)) / (len(opening) + len(closing))
-		return pad(strings.Repeat(opening, count)+middle+strings.Repeat(closing, count), size)
-	}
 	const most = api.MaxSource
 	expectEvals(t, []evalCase{
 		{pad("i", most-1), value("-7")}, {pad("i", most), value("-7")}, {pad("i", most+1), faulty(api.Long, 0)},

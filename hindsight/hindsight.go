@@ -37,8 +37,9 @@ const apart = 20
 
 // Session is a debugger at work.
 type Session struct {
-	now  machine.State
-	kept store.Store[int, machine.State] // by moments
+	now         machine.State
+	kept        store.Store[int, machine.State] // by moments
+	breakpoints map[int]breakpoint              // by lines
 }
 
 // Start begins a session (P3).
@@ -50,7 +51,7 @@ func Start(source string, tape []int) (*Session, api.Kind, int) {
 	if kind != api.Fine {
 		return nil, kind, line
 	}
-	s := &Session{now: machine.Start(program, tape)}
+	s := &Session{now: machine.Start(program, tape), breakpoints: map[int]breakpoint{}}
 	s.keep(s.now)
 	return s, api.Fine, 0
 }
@@ -92,15 +93,3 @@ func (s *Session) keep(state machine.State) {
 		s.kept.Keep(state.Time(), state)
 	}
 }
-
-// Break sets a breakpoint (P7).
-func (s *Session) Break(line int, when string) (api.Kind, int) { return api.Fine, 0 }
-
-// Clear takes a breakpoint away (P7).
-func (s *Session) Clear(line int) bool { return false }
-
-// Go goes on to a breakpoint (P8).
-func (s *Session) Go() bool { return false }
-
-// GoBack goes back to a breakpoint (P8).
-func (s *Session) GoBack() bool { return false }

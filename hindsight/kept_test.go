@@ -27,8 +27,9 @@ func expectKept(t *testing.T, s *Session) {
 
 // TestMovesKeep: however a session goes on, it keeps what it passes.
 func TestMovesKeep(t *testing.T) {
-	for _, move := range []func(*Session) bool{(*Session).Step, (*Session).Over, (*Session).Out} {
+	for _, move := range []func(*Session) bool{(*Session).Step, (*Session).Over, (*Session).Out, (*Session).Go} {
 		s, _, _ := Start("func f(n) { while 0 < n { n = n - 1; } } func main() { while true { f(30); } }", nil)
+		s.Break(1, "n == 17")
 		for move(s) {
 		}
 		if s.now.Time() != api.MaxTime {

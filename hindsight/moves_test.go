@@ -217,11 +217,7 @@ func TestMovesOfMadePrograms(t *testing.T) {
 	d := dice(5)
 	var deep int
 	for range 400 {
-		routines := (&maker{dice: &d}).program()
-		source := (&writer{dice: &d}).program(routines)
-		if len(source) > api.MaxSource {
-			continue
-		}
+		_, routines, source := made(&d)
 		moments := secondRunOf(routines, []int{3, 1}).moments
 		s := started(t, source, 3, 1)
 		at := 0

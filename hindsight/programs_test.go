@@ -430,19 +430,27 @@ func (w *writer) list(exprs []*tree) {
 	}
 }
 
+// made makes a program that fits into a source.
+func made(d *dice) (*maker, []*routine, string) {
+	for {
+		m := &maker{dice: d}
+		routines := m.program()
+		source := (&writer{dice: d}).program(routines)
+		if len(source) <= api.MaxSource {
+			return m, routines, source
+		}
+	}
+}
+
 // TestRunsAgainstSecondWay holds all the moments of many programs against
 // those of the second way to run them.
 func TestRunsAgainstSecondWay(t *testing.T) {
 	d := dice(4)
 	stops := map[api.Stop]int{}
 	for range 3000 {
-		routines := (&maker{dice: &d}).program()
-		source := (&writer{dice: &d}).program(routines)
+		_, routines, source := made(&d)
 		tape := []int{1, -2, 3, 0, 1 << 62}[:d.below(6)]
 		if kind, line := hindsight.Check(source); kind != api.Fine {
-			if kind == api.Long {
-				continue
-			}
 			t.Fatalf("%s\nCheck = %d, %d", source, kind, line)
 		}
 		want := secondRunOf(routines, tape).moments

@@ -162,12 +162,7 @@ func TestEvalAndSinceOfMadePrograms(t *testing.T) {
 	var values, later int
 	stops, kinds := map[api.Stop]int{}, map[api.Kind]int{}
 	for range 500 {
-		m := &maker{dice: &d}
-		routines := m.program()
-		source := (&writer{dice: &d}).program(routines)
-		if len(source) > api.MaxSource {
-			continue
-		}
+		m, routines, source := made(&d)
 		second := secondRunOf(routines, []int{2, 1})
 		s := started(t, source, 2, 1)
 		for range 5 {

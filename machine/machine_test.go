@@ -150,3 +150,18 @@ func TestNamesAndDepths(t *testing.T) {
 		s, _ = s.Next()
 	}
 }
+
+// TestLines: the line is that of the last frame, at a stop too.
+func TestLines(t *testing.T) {
+	s := startOf("func f(a) {\nprint\na;\nreturn 1 / a; }\nfunc main() { print 1;\nf(\n1); f(0); }")
+	want := []int{5, 6, 2, 4, 7, 2, 4, 4}
+	for n, line := range want {
+		if got, ok := s.Line(); got != line || !ok {
+			t.Errorf("at moment %d: %d, %v, want %d", n, got, ok, line)
+		}
+		s, _ = s.Next()
+	}
+	if line, ok := startOf("func main() { }").Line(); line != 0 || ok {
+		t.Errorf("without a frame: %d, %v", line, ok)
+	}
+}

@@ -106,6 +106,14 @@ func (s State) Time() int { return s.time }
 // Depth tells how many frames there are.
 func (s State) Depth() int { return len(s.frames) }
 
+// Line tells the line of the last frame's statement; false if there is no frame.
+func (s State) Line() (int, bool) {
+	if len(s.frames) == 0 {
+		return 0, false
+	}
+	return s.top().doing.line, true
+}
+
 // Moment tells the state, in memory of its own.
 func (s State) Moment() api.Moment {
 	return api.Moment{
