@@ -363,9 +363,10 @@ func TestBreakTextIsNotKept(t *testing.T) {
 	}
 }
 
-// TestGoFromEveryMoment: programs of every way to end, with conditions that
-// come and go. (In long ones not from all moments: from some of each part.)
-func TestGoFromEveryMoment(t *testing.T) {
+// TestGoFromManyMoments: programs of every way to end, with conditions that
+// come and go; in long ones from some 50 moments all over the run, since each
+// move asks at many others.
+func TestGoFromManyMoments(t *testing.T) {
 	for _, source := range callPrograms {
 		moments := allMoments(t, started(t, source, 1, 2, 3, 4, 5))
 		from := numbersBelow(len(moments), 1+len(moments)/50)

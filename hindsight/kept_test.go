@@ -30,7 +30,10 @@ func TestMovesKeep(t *testing.T) {
 	for _, move := range []func(*Session) bool{(*Session).Step, (*Session).Over, (*Session).Out, (*Session).Go} {
 		s, _, _ := Start("func f(n) { while 0 < n { n = n - 1; } } func main() { while true { f(30); } }", nil)
 		s.Break(1, "n == 17")
-		for move(s) {
+		for moved := 0; move(s); moved++ {
+			if moved > api.MaxTime {
+				t.Fatalf("at %d it does not go on", s.now.Time())
+			}
 		}
 		if s.now.Time() != api.MaxTime {
 			t.Fatalf("the last moment is %d", s.now.Time())
